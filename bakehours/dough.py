@@ -26,6 +26,16 @@ class Dough:
         """Whether it is cooled in some hour, be it before its mixing."""
         return True in self.cooled
 
+    def number_of_cooled_hours(self):
+        """In how many hours it is cooled, those before its mixing among them."""
+        return self.cooled.count(True)
+
+    def another_one(self):
+        """A dough like this one, which stays as it is whatever is done with this one."""
+        other = Dough(self.mixed_at, self.minimum, self.maximum, len(self.cooled))
+        other.cooled = list(self.cooled)
+        return other
+
     def risen_by(self, t, temperatures):
         """How much it has risen by time t."""
         amount = 0

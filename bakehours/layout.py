@@ -9,7 +9,14 @@ COOL = 5
 STOP_COOLING = 6
 SET_BAKING_TIME = 7
 WINDOW = 8
+RISEN = 9
 START_TIMES = 10
+PLAN = 11
+MOST_DOUGHS = 12
+EARLIEST_DEADLINE = 13
+CAN_BAKE = 14
+PLAN_IF_COOLED = 15
+DESCRIBE = 16
 
 # For each call, by its number: how many whole numbers it has behind it.
 # Of start_times this is the length of the order; the order comes in addition.

@@ -6,9 +6,10 @@ import unittest
 
 from bakehours.oven import answers
 from tests.helper import (
-    HIGHEST, LOWEST, MISSING, NO_INSTANCE, NO_WINDOW, NOT_COOLED, OUT_OF_RANGE, TOO_MANY_DOUGHS,
-    add_dough, ask, cool, create, last_answer, remove_dough, set_baking_time, set_temperature,
-    set_temperatures, state_after, stop_cooling, window,
+    HIGHEST, LOWEST, MISSING, NO_INSTANCE, NO_ORDER, NO_WINDOW, NOT_COOLED, OUT_OF_RANGE, TOO_MANY_DOUGHS,
+    add_dough, ask, can_bake, cool, create, describe, earliest_deadline, last_answer, most_doughs, plan,
+    plan_if_cooled, remove_dough, risen, set_baking_time, set_temperature, set_temperatures, start_times,
+    state_after, stop_cooling, window,
 )
 
 # Every call but create, with what would be right and with what would be wrong.
@@ -16,8 +17,9 @@ OTHER_CALLS = [
     set_temperature(0, 20), set_temperature(-1, 41), set_temperatures(0, 1, 20), set_temperatures(1, 0, 41),
     add_dough(0, 1, 1), add_dough(-1, 0, 1000), remove_dough(0), remove_dough(-1), cool(0, 0, 1),
     cool(-1, 1, 0), stop_cooling(0), stop_cooling(LOWEST), set_baking_time(1), set_baking_time(HIGHEST),
-    window(0), window(-1), [9, 0, 0], [9, -1, -1], [10, 0], [10, 2, 1, 0], [10, 3, -1, -1, LOWEST],
-    [10, 70] + [0] * 70, [11], [12], [13], [14, 0], [14, -1], [15, 0, 0, 1], [15, -1, 1, 0], [16],
+    window(0), window(-1), risen(0, 0), risen(-1, -1), start_times([]), start_times([1, 0]),
+    start_times([-1, -1, LOWEST]), start_times([0] * 70), plan(), most_doughs(), earliest_deadline(),
+    can_bake(0), can_bake(-1), plan_if_cooled(0, 0, 1), plan_if_cooled(-1, 1, 0), describe(),
 ]
 
 INSTANCE = [
@@ -42,6 +44,24 @@ ERRORS = [
     (cool(0, 5, 5), OUT_OF_RANGE), (cool(0, 6, 5), OUT_OF_RANGE), (stop_cooling(-1), MISSING),
     (stop_cooling(3), MISSING), (stop_cooling(2), NOT_COOLED), (set_baking_time(0), OUT_OF_RANGE),
     (set_baking_time(10), OUT_OF_RANGE), (window(-1), MISSING), (window(3), MISSING), (window(2), NO_WINDOW),
+    (risen(-1, 0), MISSING), (risen(3, 0), MISSING), (risen(0, -1), OUT_OF_RANGE), (risen(0, 9), OUT_OF_RANGE),
+    (start_times([3]), OUT_OF_RANGE), (start_times([0, 0]), OUT_OF_RANGE), (start_times([2]), NO_ORDER),
+    (plan(), NO_ORDER), (can_bake(-1), OUT_OF_RANGE), (can_bake(8), OUT_OF_RANGE),
+    (plan_if_cooled(3, 0, 8), MISSING), (plan_if_cooled(0, 5, 5), OUT_OF_RANGE),
+    (plan_if_cooled(0, 6, 8), NO_ORDER), (plan_if_cooled(1, 0, 8), NO_ORDER),
+]
+
+# All three doughs of this one can be baked, so that no query is refused for want of an order.
+BAKEABLE = [
+    create(12, 2), set_temperatures(3, 5, 11), add_dough(0, 30, 90), add_dough(1, 20, 150),
+    add_dough(5, 10, 120), cool(0, 2, 4), cool(2, 5, 6),
+]
+
+# Calls that only ask, and that answer no error on the instance above.
+QUERIES = [
+    window(0), window(2), risen(0, 0), risen(1, 12), start_times([]), start_times([0, 1, 2]), start_times([1]),
+    plan(), most_doughs(), earliest_deadline(), can_bake(0), can_bake(5), can_bake(7), plan_if_cooled(0, 0, 2),
+    plan_if_cooled(1, 11, 12), plan_if_cooled(2, 0, 8), describe(),
 ]
 
 
@@ -90,10 +110,23 @@ class UnchangedTest(unittest.TestCase):
         self.assertEqual(last_answer(*FULL, add_dough(0, 36, 90)), TOO_MANY_DOUGHS)
         self.assertEqual(state_after(FULL + [add_dough(0, 36, 90)]), state_after(FULL))
 
-    def test_window(self):
-        for i in range(3):
-            with self.subTest(i=i):
-                self.assertEqual(state_after(INSTANCE + [window(i)]), state_after(INSTANCE))
+    def test_queries(self):
+        for calls in (INSTANCE, BAKEABLE):
+            before = state_after(calls)
+            for call in QUERIES:
+                with self.subTest(call=call):
+                    self.assertEqual(state_after(calls + [call]), before)
+
+    def test_queries_answer_no_error(self):
+        # Else it would say nothing of them that the state is the same.
+        found = ask(*BAKEABLE, *QUERIES)[len(BAKEABLE):]
+        for call, answer in zip(QUERIES, found):
+            with self.subTest(call=call):
+                self.assertGreaterEqual(min(answer), 0)
+
+    def test_queries_answer_the_same_in_any_order(self):
+        found = ask(*BAKEABLE, *QUERIES, *reversed(QUERIES))[len(BAKEABLE):]
+        self.assertEqual(found[:len(QUERIES)], found[:len(QUERIES) - 1:-1])
 
 
 class RequestTest(unittest.TestCase):
@@ -105,6 +138,12 @@ class RequestTest(unittest.TestCase):
         self.assertEqual(answers([0, 10, 2]), [1, 0])
         self.assertEqual(answers([0, 0, 2]), [1, -22])
         self.assertEqual(answers([8, 0]), [1, -11])
+
+    def test_every_call_is_answered(self):
+        for calls in ([create(1, 1)], INSTANCE, FULL, BAKEABLE):
+            for call in OTHER_CALLS + QUERIES:
+                with self.subTest(call=call):
+                    self.assertGreater(len(last_answer(*calls, call)), 0)
 
     def test_sixty_calls(self):
         calls = [create(36, 9)] + [add_dough(0, 20, 40)] * 6 + [window(5)] * 53
